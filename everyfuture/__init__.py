@@ -1,0 +1,1 @@
+"""Everyfuture: first decisions that are held against every future of a kind."""
