@@ -6,7 +6,7 @@ tuple stands for no futures at all.
 
 from everyfuture.stretches import join_stretches
 
-# Which futures `combined` keeps: those of the first kind alone, those of both, those of the second kind alone.
+# What `combined` keeps: the futures of the first kind alone, those of both kinds, those of the second kind alone.
 EITHER = (True, True, True)
 COMMON = (False, True, False)
 WITHOUT = (True, False, False)
@@ -48,7 +48,7 @@ def spread(runs, starts):
 
 
 def combined(first, second, kept):
-    """Return the cells of the futures of two kinds with the same gauges that `kept` wants to be kept."""
+    """Return the cells of those futures of two kinds with the same gauges that `kept` tells."""
     if first == second:
         return first if kept[1] else ()
     if not second:

@@ -34,7 +34,7 @@ class Kind:
         gauges = self.gauges + other.gauges
         order = ascending_places(gauges)
         cells = [arranged(first + second, order) for first in self.cells for second in other.cells]
-        return kind_of(tuple(sorted(gauges)), tuple(sorted(cells)))
+        return kind_of(gauges, tuple(sorted(cells)))
 
     def __contains__(self, future):
         if not all([gauge in future for gauge in self.gauges]):
@@ -73,9 +73,10 @@ class Kind:
             if gauge in gauges[:at]:
                 raise InvalidGauge(gauge)
             place_of(self, gauge)
-        kept = sorted(gauges)
-        order = [place_of(self, gauge) for gauge in kept]
-        return Kind(kept, [arranged(cell, order) for cell in self.cells])
+        if len(gauges) == len(self.gauges):
+            return kind_of(self.gauges, self.cells)
+        order = [place_of(self, gauge) for gauge in gauges]
+        return Kind(gauges, [arranged(cell, order) for cell in self.cells])
 
     def span(self, gauge):
         """Return a pair of the least and the greatest value of the gauge."""
@@ -153,16 +154,15 @@ def has_values(cell, values):
 
 
 def kind_of(gauges, cells):
-    """Return the kind with ascending gauges whose cells are known already."""
-    if not cells:
-        raise EmptyKind()
+    """Return the kind with these gauges whose cells are known already, or raise an error if there are none."""
+    # The first cell is enough to create a kind; finding all cells again would take long.
     kind = Kind(gauges, cells[:1])
     kind.cells = cells
     return kind
 
 
 def joint_kind(first, second, kept):
-    """Return the kind of the futures of two kinds with the same gauges that `kept` wants to be kept."""
+    """Return the kind of those futures of two kinds with the same gauges that `kept` tells (see cells.py)."""
     check_same_gauges(first, second)
     return kind_of(first.gauges, combined(first.cells, second.cells, kept))
 

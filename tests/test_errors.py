@@ -99,6 +99,14 @@ class Copies(unittest.TestCase):
         group.append(1)
         self.assertEqual((kept.future, kept.group, covered.future), ({"a": 1}, [0], {"a": 1}))
 
+    def test_no_other_part_of_an_error_is_tied_either(self):
+        future, group = {"a": 1}, [0]
+        made = [errors.InvalidGroup(group), errors.NotKept(future, group), errors.NotCovered(1, future)]
+        before = [(str(error), repr(error)) for error in made]
+        future["b"] = 2
+        group.append(3)
+        self.assertEqual([(str(error), repr(error)) for error in made], before)
+
     def test_keys_of_a_future_ascend(self):
         future = {"c": 1, "a10": 2, "b": 3, "a": 4, "a2": 5}
         for error in (errors.NotKept(future, []), errors.NotCovered(0, future)):

@@ -9,6 +9,18 @@ KINDS = """
 >>> [kind.gauges, kind.cells, kind.size(), kind.future_at(4)]
 [('a', 'b'), (((0, 1), (0, 1)), ((2, 5), (0, 4))), 24, {'a': 2, 'b': 0}]
 """
+LINES = """
+>>> from everyfuture.lines import Line
+>>> line = Line(0, -4, [(0, 5)]).fed(3, 2, 1)
+>>> [line.base, line.left, line.corners, line(-2)]
+[0, -4, ((-2, 1), (0, 4)), 6]
+"""
+ORDERS = """
+>>> from everyfuture.orders import Orders
+>>> orders = Orders([("a", 3, 5, 2, 1, 4), (6, "p", 2, 0, 1, 4)], urgent=10)
+>>> [orders.finish({"a": 4, "p": 9}), orders.least({"a": 4, "p": 9}), orders.directions(4)]
+[[10, 0], 46, [{'a': -1, 'p': -1}, {'a': 1, 'p': 1}]]
+"""
 
 
 class Examples(unittest.TestCase):
@@ -21,6 +33,12 @@ class Examples(unittest.TestCase):
 
     def test_kinds(self):
         self.check(KINDS)
+
+    def test_lines(self):
+        self.check(LINES)
+
+    def test_orders(self):
+        self.check(ORDERS)
 
 
 if __name__ == "__main__":

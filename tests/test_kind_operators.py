@@ -124,6 +124,12 @@ class Products(unittest.TestCase):
         self.assertEqual((first * second).cells, (((0, 0), (7, 7), (1, 1)), ((0, 0), (9, 9), (1, 1)),
                                                   ((5, BIG), (7, 7), (2, 3)), ((5, BIG), (9, 9), (2, 3))))
 
+    def test_cells_are_in_order_whatever_the_order_of_the_gauges(self):
+        first = Kind(["a", "c"], [[(0, 0), (0, 0)], [(0, 0), (5, 5)]])
+        expected = tuple(((0, 0), (b, b), (c, c)) for b in (7, 9) for c in (0, 5))
+        self.assertEqual((first * menu("b", [7, 9])).cells, expected)
+        self.assertEqual((menu("b", [7, 9]) * first).cells, expected)
+
     def test_the_unit(self):
         kind = menu("a", [1, 4])
         self.assertEqual((Kind([], [[]]) * kind, kind * Kind([], [[]])), (kind, kind))

@@ -12,8 +12,8 @@ BUILTINS = {
     "tuple", "dict", "set", "isinstance", "divmod", "any", "all", "iter", "super", "ValueError",
 }
 METHODS = {
-    "append", "count", "endswith", "find", "get", "index", "insert", "items", "join", "keys", "pop", "setdefault",
-    "split", "startswith", "values", "bit_length",
+    "append", "count", "endswith", "extend", "find", "get", "index", "insert", "items", "join", "keys", "pop",
+    "setdefault", "split", "startswith", "values", "bit_length",
 }
 DOUBLE = {
     "__init__", "__eq__", "__call__", "__iter__", "__or__", "__and__", "__sub__", "__mul__", "__add__", "__contains__",
