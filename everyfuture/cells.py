@@ -4,12 +4,14 @@ A box is a tuple of stretches here, one for each gauge in ascending order. Cells
 tuple stands for no futures at all.
 """
 
-from everyfuture.stretches import join_stretches
+from everyfuture.boxes import all_widened, box_size, simplified
 
 # What `combined` keeps: the futures of the first kind alone, those of both kinds, those of the second kind alone.
 EITHER = (True, True, True)
 COMMON = (False, True, False)
 WITHOUT = (True, False, False)
+# So many boxes may be left behind slices before longer boxes with the same futures are looked for.
+MOST_BOXES = 10000
 
 
 def arranged(box, order):
@@ -62,99 +64,61 @@ def combined(first, second, kept):
     return joined([(low, high, combined(one, two, kept)) for low, high, one, two in rows])
 
 
-def is_within(inner, outer):
-    """Return True if all futures of one box are in the other one, otherwise False."""
-    for (low, high), (least, greatest) in zip(inner, outer):
-        if low < least or greatest < high:
-            return False
-    return True
-
-
-def is_within_one(box, boxes):
-    """Return True if all futures of the box are in a single one of some boxes, otherwise False."""
-    for other in boxes:
-        if is_within(box, other):
-            return True
-    return False
-
-
-def without_parts(boxes):
-    """Return the boxes that are not within another one of these different boxes."""
-    # In this order a box that has another one within it comes first.
-    rows = sorted([([(low, -high) for low, high in box], box) for box in boxes])
-    outer = []
-    for _, box in rows:
-        if not is_within_one(box, outer):
-            outer.append(box)
-    return outer
-
-
-def joined_along(boxes, at):
-    """Return the boxes, but those that differ in nothing but touching stretches at this place as one."""
-    stretches = {}
-    for box in boxes:
-        stretches.setdefault(box[:at] + box[at + 1:], []).append(box[at])
-    rows = [(other, stretch) for other in stretches for stretch in join_stretches(stretches[other])]
-    return [other[:at] + (stretch,) + other[at:] for other, stretch in rows]
-
-
-def simplified(boxes):
-    """Return few boxes with the same futures as one or more boxes, in ascending order and without duplicates."""
-    fewer = sorted(set(boxes))
-    many = len(fewer) + 1
-    while len(fewer) < many:
-        many = len(fewer)
-        for at in range(len(fewer[0])):
-            fewer = joined_along(fewer, at)
-        fewer = without_parts(fewer)
-    return tuple(sorted(fewer))
-
-
 def sliced(boxes):
     """Return rows (low, high, boxes of the rest) for the stretches between neighbouring ends of the first gauge."""
     starts = sorted({end for box in boxes for end in (box[0][0], box[0][1] + 1)})
     rows = []
     for low, after in zip(starts, starts[1:]):
-        rests = [box[1:] for box in boxes if box[0][0] <= low < box[0][1] + 1]
+        rests = [box[1:] for box in boxes if box[0][0] <= low <= box[0][1]]
         if rests:
-            rows.append((low, after - 1, simplified(rests)))
+            rows.append((low, after - 1, rests))
     return rows
 
 
-def cells_of(boxes):
-    """Return the cells of the futures of one or more boxes with equally many gauges.
+def sliced_levels(boxes, most):
+    """Return for each gauge the slices of all lists of boxes that may be left behind the gauges before it.
 
-    It goes through the gauges in order and keeps, for each gauge, which boxes may be left behind the values of the
-    gauges before it. So equal boxes are looked at only once, however many ways lead to them.
+    A slice is a row (low, high, index of the list that is left behind it). Equal lists are looked at only once,
+    however many ways lead to them. Return None if the lists behind all slices have more than `most` boxes together;
+    None for `most` stands for any number.
     """
     levels = []
-    states = [simplified(boxes)]
+    states = [boxes]
+    work = 0
     while states[0][0]:
         places = {}
-        rows = []
+        level = []
         for state in states:
-            runs = []
-            for low, high, rest in sliced(state):
-                runs.append((low, high, places.setdefault(rest, len(places))))
-            rows.append(runs)
-        levels.append(rows)
+            rows = []
+            for low, high, rests in sliced(state):
+                left = simplified(rests)
+                work = work + len(left)
+                if most is not None and most < work:
+                    return None
+                rows.append((low, high, places.setdefault(left, len(places))))
+            level.append(rows)
+        levels.append(level)
         states = list(places)
+    return levels
+
+
+def cells_of(boxes):
+    """Return the cells of the futures of one or more boxes with equally many gauges."""
+    fewer = simplified(boxes)
+    levels = sliced_levels(fewer, MOST_BOXES)
+    if levels is None:
+        # Many lists of boxes that overlap hide the same futures; longer boxes show this, but take long to find.
+        levels = sliced_levels(all_widened(fewer), None)
     # After the last gauge nothing but the empty box is left.
     cells = [((),)]
     for level in levels[::-1]:
-        cells = [joined([(low, high, cells[at]) for low, high, at in row]) for row in level]
+        cells = [joined([(low, high, cells[at]) for low, high, at in rows]) for rows in level]
     return cells[0]
 
 
 def future_count(cells):
     """Return the number of the futures of some cells."""
-    total = 0
-    for cell in cells:
-        many = 1
-        for low, high in cell:
-            many = many * (high - low + 1)
-        total = total + many
-    return total
+    return sum([box_size(cell) for cell in cells])
 
 
 def values_at(cells, number):
