@@ -1,6 +1,7 @@
-"""What departments have in common: the gauges that they read, and the futures and decisions that they accept."""
+"""What departments have in common: the gauges that they read, and the futures, kinds and decisions they accept."""
 
-from everyfuture.errors import InvalidDecision, MissingGauge, NothingOpen, OutOfRange, SharedGauge
+from everyfuture.errors import InvalidAmount, InvalidCertificate, InvalidDecision, InvalidPlan
+from everyfuture.errors import MissingGauge, NothingOpen, OutOfRange, SharedGauge
 from everyfuture.futures import is_gauge
 
 
@@ -35,15 +36,31 @@ def read_gauges(readings):
     return tuple(sorted(gauges))
 
 
+def least_value(department, gauge):
+    """Return the least value that the department accepts for one of its gauges."""
+    # No step takes less than an hour; all other readings may be 0.
+    return 1 if gauge in department.hour_gauges else 0
+
+
 def check_future(department, future):
     """Raise an error for the first gauge that the future lacks, then for the first one with too small a value."""
     for gauge in department.gauges:
         if gauge not in future:
             raise MissingGauge(gauge)
     for gauge in department.gauges:
-        # No step takes less than an hour; all other readings may be 0.
-        if future[gauge] < (1 if gauge in department.hour_gauges else 0):
+        if future[gauge] < least_value(department, gauge):
             raise OutOfRange(gauge)
+
+
+def kind_for(department, kind):
+    """Return the kind of the department, or raise an error for the first gauge lacking, then for too small values."""
+    for gauge in department.gauges:
+        if gauge not in kind.gauges:
+            raise MissingGauge(gauge)
+    for gauge in department.gauges:
+        if kind.span(gauge)[0] < least_value(department, gauge):
+            raise OutOfRange(gauge)
+    return kind.onto(department.gauges)
 
 
 def check_open(department):
@@ -57,3 +74,41 @@ def check_decision(department, decision):
     check_open(department)
     if not department.allows(decision):
         raise InvalidDecision(decision)
+
+
+def check_amount(amount):
+    """Raise an error if the number is less than 0."""
+    if amount < 0:
+        raise InvalidAmount(amount)
+
+
+def check_row(decisions, most):
+    """Raise an error for the first one of the decisions of a row department that is too much or no amount."""
+    for at, decision in enumerate(decisions):
+        if most <= at or not is_amount(decision):
+            raise InvalidPlan(at)
+
+
+def check_whole_row(decisions, many):
+    """Raise an error if the decisions are not a list of so many decisions of a row department."""
+    if not is_list(decisions):
+        raise InvalidPlan(0)
+    check_row(decisions, many)
+    if len(decisions) < many:
+        raise InvalidPlan(len(decisions))
+
+
+def check_entries(certificate, many):
+    """Raise an error if the certificate is not a list with so many entries."""
+    if not is_list(certificate):
+        raise InvalidCertificate(0)
+    if len(certificate) != many:
+        raise InvalidCertificate(min(len(certificate), many))
+
+
+def check_integers(certificate, many):
+    """Raise an error if the certificate is not a list of so many integers."""
+    check_entries(certificate, many)
+    for at, entry in enumerate(certificate):
+        if not is_whole(entry):
+            raise InvalidCertificate(at)

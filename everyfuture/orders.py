@@ -1,10 +1,10 @@
 """Orders: a department that orders goods for consecutive periods."""
 
 from everyfuture.curves import Curve
-from everyfuture.departments import check_decision, check_future, check_open
-from everyfuture.departments import is_amount, is_list, is_reading, is_whole, read_gauges
+from everyfuture.departments import check_amount, check_decision, check_future, check_integers, check_open
+from everyfuture.departments import check_row, check_whole_row, is_amount, is_reading, read_gauges
 from everyfuture.ends import opposite
-from everyfuture.errors import InvalidAmount, InvalidCertificate, InvalidPeriod, InvalidPlan
+from everyfuture.errors import InvalidCertificate, InvalidPeriod
 from everyfuture.futures import value_of
 from everyfuture.lines import Line
 
@@ -15,10 +15,9 @@ class Orders:
     def __init__(self, periods, *, stock=0, urgent=0, placed=()):
         check_periods(periods)
         gauges = read_gauges([reading for period in periods for reading in period[:2]])
-        for amount in (stock, urgent):
-            if amount < 0:
-                raise InvalidAmount(amount)
-        check_orders(placed, len(periods))
+        check_amount(stock)
+        check_amount(urgent)
+        check_row(placed, len(periods))
         self.periods = tuple([tuple(period) for period in periods])
         self.stock = stock
         self.urgent = urgent
@@ -75,12 +74,7 @@ class Orders:
 
     def cost(self, decisions, future):
         """Return the cost of the completion in the future."""
-        remaining = len(self.periods) - len(self.placed)
-        if not is_list(decisions):
-            raise InvalidPlan(0)
-        check_orders(decisions, remaining)
-        if len(decisions) < remaining:
-            raise InvalidPlan(len(decisions))
+        check_whole_row(decisions, len(self.periods) - len(self.placed))
         check_future(self, future)
         cost, stock = carried_out(valued(self.periods, future), self.placed + tuple(decisions), self.stock)
         return cost + self.urgent * max(0, -stock)
@@ -122,13 +116,6 @@ def check_periods(periods):
     for at, (want, price, room, extra, hold, late) in enumerate(periods):
         if not is_reading(want, 0) or not is_reading(price, 0) or min(room, extra, hold - 1, late) < 0:
             raise InvalidPeriod(at)
-
-
-def check_orders(decisions, most):
-    """Raise an error for the first decision that is no order or for which no period is left."""
-    for at, decision in enumerate(decisions):
-        if most <= at or not is_amount(decision):
-            raise InvalidPlan(at)
 
 
 def valued(periods, future):
@@ -211,13 +198,7 @@ def unit_values(rows, lines, stock):
 
 def check_certificate(certificate, rows, urgent):
     """Raise an error with the place of the first fault if the list of values of a unit is not valid."""
-    if not is_list(certificate):
-        raise InvalidCertificate(0)
-    if len(certificate) != len(rows):
-        raise InvalidCertificate(min(len(certificate), len(rows)))
-    for at, value in enumerate(certificate):
-        if not is_whole(value):
-            raise InvalidCertificate(at)
+    check_integers(certificate, len(rows))
     for at, row in enumerate(rows):
         if not is_value_fine(certificate[at:at + 2], row, urgent):
             raise InvalidCertificate(at)

@@ -15,11 +15,24 @@ LINES = """
 >>> [line.base, line.left, line.corners, line(-2)]
 [0, -4, ((-2, 1), (0, 4)), 6]
 """
+PLANS = """
+>>> from everyfuture.plans import Plans
+>>> from everyfuture.rises import later_costs, now_costs
+>>> plans = Plans(("one", ["a", ("all", ["b", 2])]))
+>>> [later_costs(plans, {"a": 5, "b": 3}, {"a": 4, "b": 2}), now_costs(plans, {"a": 5, "b": 3}, {"a": 4, "b": 2})]
+[[5, 5, 7], [5, 7, 7]]
+"""
 ORDERS = """
 >>> from everyfuture.orders import Orders
 >>> orders = Orders([("a", 3, 5, 2, 1, 4), (6, "p", 2, 0, 1, 4)], urgent=10)
 >>> [orders.finish({"a": 4, "p": 9}), orders.least({"a": 4, "p": 9}), orders.directions(4)]
 [[10, 0], 46, [{'a': -1, 'p': -1}, {'a': 1, 'p': 1}]]
+"""
+WORKS = """
+>>> from everyfuture.works import Works
+>>> works = Works([[(1, 0), (3, "w")], [(2, 1)]])
+>>> [works.lead(0, {"w": 1}), works.regret(0, {"w": 1}), works.level({"w": 2}, 0), works.finish({"w": 2})]
+[(1, 4), 1, [(0, 1)], [0, 0, 1]]
 """
 
 
@@ -37,8 +50,14 @@ class Examples(unittest.TestCase):
     def test_lines(self):
         self.check(LINES)
 
+    def test_plans(self):
+        self.check(PLANS)
+
     def test_orders(self):
         self.check(ORDERS)
+
+    def test_works(self):
+        self.check(WORKS)
 
 
 if __name__ == "__main__":

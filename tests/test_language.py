@@ -70,6 +70,7 @@ class Files(unittest.TestCase):
 class Names(unittest.TestCase):
     def test_imports_name_the_file_that_defines_the_name(self):
         defined = {f"everyfuture.{name[:-3]}": bound_names(tree) for name, tree in trees()}
+        defined["math"] = ["gcd"]
         for place, node in nodes((ast.Import, ast.ImportFrom)):
             self.assertIsInstance(node, ast.ImportFrom, place)
             for alias in node.names:
@@ -77,7 +78,7 @@ class Names(unittest.TestCase):
                 self.assertIn(alias.name, defined[node.module], place)
 
     def test_no_two_files_import_from_each_other(self):
-        after = {name[:-3]: {node.module.split(".")[1] for node in ast.walk(tree) if isinstance(node, ast.ImportFrom)}
+        after = {name[:-3]: {node.module.split(".")[-1] for node in ast.walk(tree) if isinstance(node, ast.ImportFrom)}
                  for name, tree in trees()}
         while after:
             free = [name for name in after if not after[name] & set(after)]
