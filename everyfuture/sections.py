@@ -27,13 +27,14 @@ def ratio_span(ratios):
 
 def first_section(steps):
     """Return a tuple of the number of steps in the first section, their worth and their hours."""
-    many, best = 0, (0, 0)
+    # No ratio is less than 0, so the first step is taken in any case.
+    many, best = 0, (0, 1)
     worth = hours = 0
     for at, (step_hours, step_worth) in enumerate(steps):
         worth = worth + step_worth
         hours = hours + step_hours
         # Of several beginnings with the greatest ratio the longest one is taken.
-        if many == 0 or not is_less((worth, hours), best):
+        if not is_less((worth, hours), best):
             many, best = at + 1, (worth, hours)
     return many, best[0], best[1]
 

@@ -2,6 +2,8 @@
 
 from itertools import product
 
+from everyfuture.kinds import Kind
+
 BIG = 10 ** 18
 HUGE = 10 ** 59 + 7
 
@@ -79,3 +81,21 @@ def split_boxes(random, boxes, many):
         parts.append(box[:at] + ((middle + 1, high),) + box[at + 1:])
     random.shuffle(parts)
     return parts
+
+
+def ends_by_words(kind, signs):
+    """Return the ends of a small kind in the direction, in the order of futures."""
+    futures = futures_of(kind)
+    return [future for future in futures
+            if not any(other != future and all(signs[gauge] * other[gauge] >= signs[gauge] * future[gauge]
+                                               for gauge in future) for other in futures)]
+
+
+def small_kind(random, gauges, top, most, least=0):
+    """Return a kind with these gauges, values up to top and at most so many futures."""
+    while True:
+        boxes = [[(low + least, min(high, low + random.randint(0, 2)) + least) for low, high in box]
+                 for box in random_boxes(random, len(gauges), top - least, 3)]
+        kind = Kind(gauges, boxes)
+        if kind.size() <= most:
+            return kind

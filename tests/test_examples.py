@@ -15,6 +15,12 @@ LINES = """
 >>> [line.base, line.left, line.corners, line(-2)]
 [0, -4, ((-2, 1), (0, 4)), 6]
 """
+PROMISES = """
+>>> from everyfuture.promises import Promises
+>>> curve = Promises([2], [["a"], [1]], fine=5).curve({"a": 3})
+>>> [curve.base, curve.pieces, curve.lowest(), curve.level(4)]
+[25, ((0, -3), (5, 2)), (10, 5, 5), [(4, 7)]]
+"""
 PLANS = """
 >>> from everyfuture.plans import Plans
 >>> from everyfuture.rises import later_costs, now_costs
@@ -49,6 +55,9 @@ class Examples(unittest.TestCase):
 
     def test_lines(self):
         self.check(LINES)
+
+    def test_promises(self):
+        self.check(PROMISES)
 
     def test_plans(self):
         self.check(PLANS)

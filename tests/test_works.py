@@ -96,7 +96,8 @@ class Creation(unittest.TestCase):
 
     def test_the_first_gauge_that_is_read_again(self):
         self.assertEqual(told(Works, [[("a", "a")]]), ("SharedGauge", "a"))
-        self.assertEqual(told(Works, [[("b", "c"), (1, "d")], [(1, 1), ("e", "d")], [("c", "b")]]), ("SharedGauge", "d"))
+        projects = [[("b", "c"), (1, "d")], [(1, 1), ("e", "d")], [("c", "b")]]
+        self.assertEqual(told(Works, projects), ("SharedGauge", "d"))
         self.assertEqual(told(Works, [[("b", "c")], [("c", "b")]]), ("SharedGauge", "c"))
 
     def test_the_order_of_errors(self):
