@@ -105,7 +105,7 @@ def row_curves(department, futures):
 def common_level(curves, limit):
     """Return the stretch list of the amounts that cost in no curve more than the limit above its least value."""
     levels = [curve.level(limit)[0] for curve in curves]
-    low, high = max([low for low, _ in levels]), min([high for _, high in levels])
+    low, high = max([start for start, _ in levels]), min([end for _, end in levels])
     return [(low, high)] if low <= high else []
 
 
@@ -132,7 +132,7 @@ def least_worst(curves):
 def row_parting(department, futures, limit):
     """Return the two futures that part, or None; the futures are the ends for a row department."""
     levels = [curve.level(limit)[0] for curve in row_curves(department, futures)]
-    lows, highs = [low for low, _ in levels], [high for _, high in levels]
+    lows, highs = [start for start, _ in levels], [end for _, end in levels]
     if max(lows) <= min(highs):
         return None
     places = sorted([lows.index(max(lows)), highs.index(min(highs))])
