@@ -52,14 +52,19 @@ def check_future(department, future):
             raise OutOfRange(gauge)
 
 
-def kind_for(department, kind):
-    """Return the kind of the department, or raise an error for the first gauge lacking, then for too small values."""
+def check_kind(department, kind):
+    """Raise an error for the first gauge that the kind lacks, then for the first one with too small a value."""
     for gauge in department.gauges:
         if gauge not in kind.gauges:
             raise MissingGauge(gauge)
     for gauge in department.gauges:
         if kind.span(gauge)[0] < least_value(department, gauge):
             raise OutOfRange(gauge)
+
+
+def kind_for(department, kind):
+    """Return the kind of the department, or raise an error if the department does not accept the kind."""
+    check_kind(department, kind)
     return kind.onto(department.gauges)
 
 

@@ -70,7 +70,10 @@ def corner_values(cell, row):
 
 def is_reached(numbers, reaches):
     """Return True if, at each place, one of the lists has at least the numbers of this one, otherwise False."""
-    return any([all_at_least(reach, numbers) for reach in reaches])
+    for reach in reaches:
+        if all_at_least(reach, numbers):
+            return True
+    return False
 
 
 def all_at_least(numbers, others):

@@ -1,6 +1,6 @@
 """Gauges, which are known by their names, and futures, which give each gauge an integer."""
 
-from everyfuture.errors import MissingGauge
+from everyfuture.errors import MissingGauge, SharedGauge
 
 
 def is_gauge(name):
@@ -27,3 +27,13 @@ def value_of(reading, future):
 def part_of(future, gauges):
     """Return the future with these gauges alone, in ascending order."""
     return {gauge: value_of(gauge, future) for gauge in sorted(gauges)}
+
+
+def check_disjoint(rows):
+    """Raise an error for the first gauge of the first row of gauges that has a gauge of an earlier row."""
+    earlier = []
+    for row in rows:
+        for gauge in row:
+            if gauge in earlier:
+                raise SharedGauge(gauge)
+        earlier = earlier + list(row)

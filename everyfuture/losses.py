@@ -2,6 +2,7 @@
 
 from everyfuture.departments import check_amount, check_decision, check_open, kind_for
 from everyfuture.ends import ends
+from everyfuture.houses import House
 from everyfuture.orders import Orders
 from everyfuture.promises import Promises
 from everyfuture.stretches import common_stretches, join_stretches
@@ -75,10 +76,31 @@ def joint_ends(kind, directions):
     return in_future_order([future for signs in directions for future in ends(kind, signs)], kind.gauges)
 
 
+def regrets_in(department, decision, futures):
+    """Return the regrets of the decision, or of None for no decision, in the futures."""
+    if decision is None:
+        return [0] * len(futures)
+    if isinstance(department, House):
+        rows = [regrets_in(part, entry, futures) for part, entry in zip(department.parts, decision)]
+        return [sum(row) for row in zip(*rows)]
+    # Many futures of a house are alike for one of its departments, so each regret is worked out only once.
+    found = {}
+    for future in futures:
+        values = values_for(department, future)
+        if values not in found:
+            found[values] = department.regret(decision, future)
+    return [found[values_for(department, future)] for future in futures]
+
+
+def values_for(department, future):
+    """Return the values of the gauges of the department in the future, as a tuple."""
+    return tuple([future[gauge] for gauge in department.gauges])
+
+
 def loss_on(department, decision, kind):
     """Return the loss of the decision and the first end at which it occurs; the kind is that of the department."""
     futures = joint_ends(kind, department.directions(decision))
-    regrets = [department.regret(decision, future) for future in futures]
+    regrets = regrets_in(department, decision, futures)
     greatest = max(regrets)
     return greatest, futures[regrets.index(greatest)]
 

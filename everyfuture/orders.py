@@ -72,9 +72,13 @@ class Orders:
         _, stock, rows, lines = outlook(self, future)
         return best_orders(rows, lines, stock)
 
+    def check_completion(self, decisions):
+        """Raise an error if the list is no completion."""
+        check_whole_row(decisions, len(self.periods) - len(self.placed))
+
     def cost(self, decisions, future):
         """Return the cost of the completion in the future."""
-        check_whole_row(decisions, len(self.periods) - len(self.placed))
+        self.check_completion(decisions)
         check_future(self, future)
         cost, stock = carried_out(valued(self.periods, future), self.placed + tuple(decisions), self.stock)
         return cost + self.urgent * max(0, -stock)

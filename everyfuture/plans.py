@@ -69,6 +69,10 @@ class Plans:
         check_future(self, future)
         return best_choices(self._chosen, future)
 
+    def check_completion(self, decisions):
+        """Raise an error if the list is no completion."""
+        completed_term(self, decisions)
+
     def cost(self, decisions, future):
         """Return the cost of the completion in the future."""
         term = completed_term(self, decisions)

@@ -81,9 +81,13 @@ class Promises:
             part = part.after(best)
         return list(part.placed[len(self.placed):])
 
+    def check_completion(self, decisions):
+        """Raise an error if the list is no completion."""
+        check_whole_row(decisions, len(self.rates) - len(self.placed))
+
     def cost(self, decisions, future):
         """Return the cost of the completion in the future."""
-        check_whole_row(decisions, len(self.rates) - len(self.placed))
+        self.check_completion(decisions)
         limits = self.placed + tuple(decisions)
         shortfall, _ = tightest(self.rows(future), limits, [])
         return rated(self.rates, limits) + self.fine * shortfall

@@ -77,14 +77,18 @@ class Works:
             rows = without_step(rows, best)
         return decisions
 
-    def cost(self, decisions, future):
-        """Return the cost of the completion in the future."""
+    def check_completion(self, decisions):
+        """Raise an error if the list is no completion."""
         if not is_list(decisions):
             raise InvalidPlan(0)
         left = steps_left(self)
         check_projects(decisions, left)
         if len(decisions) < sum(left):
             raise InvalidPlan(len(decisions))
+
+    def cost(self, decisions, future):
+        """Return the cost of the completion in the future."""
+        self.check_completion(decisions)
         check_future(self, future)
         return carried_out(valued(self.projects, future), self.placed + tuple(decisions))[1]
 

@@ -20,7 +20,7 @@ DOUBLE = {
 }
 STATEMENTS = (
     ast.Assign, ast.AugAssign, ast.If, ast.While, ast.For, ast.Return, ast.Break, ast.Continue, ast.Pass, ast.Raise,
-    ast.Expr, ast.FunctionDef, ast.ClassDef, ast.ImportFrom,
+    ast.Expr, ast.FunctionDef, ast.ClassDef, ast.ImportFrom, ast.Try,
 )
 NOT_USED = (
     ast.GeneratorExp, ast.Lambda, ast.Yield, ast.YieldFrom, ast.Set, ast.NamedExpr, ast.Div, ast.Pow, ast.Await,
@@ -154,6 +154,13 @@ class Statements(unittest.TestCase):
         for place, node in nodes(ast.Raise):
             self.assertIsInstance(node.exc, ast.Call, place)
             self.assertIsNone(node.cause, place)
+
+    def test_only_own_errors_are_caught(self):
+        own = {node.name for name, tree in trees() if name == "errors.py" for node in tree.body
+               if isinstance(node, ast.ClassDef)}
+        for place, node in nodes(ast.ExceptHandler):
+            caught = node.type.elts if isinstance(node.type, ast.Tuple) else [node.type]
+            self.assertTrue({name.id for name in caught} <= own, place)
 
     def test_sets_are_only_asked_on_the_spot(self):
         for _, tree in trees():
