@@ -12,8 +12,8 @@ BUILTINS = {
     "tuple", "dict", "set", "isinstance", "divmod", "any", "all", "iter", "super", "ValueError",
 }
 METHODS = {
-    "append", "count", "endswith", "extend", "find", "get", "index", "insert", "items", "join", "keys", "pop",
-    "setdefault", "split", "startswith", "values", "bit_length",
+    "append", "count", "endswith", "extend", "find", "get", "index", "insert", "items", "join", "keys",
+    "partition", "pop", "setdefault", "split", "startswith", "values", "bit_length",
 }
 DOUBLE = {
     "__init__", "__eq__", "__call__", "__iter__", "__or__", "__and__", "__sub__", "__mul__", "__add__", "__contains__",
@@ -161,6 +161,16 @@ class Statements(unittest.TestCase):
         for place, node in nodes(ast.ExceptHandler):
             caught = node.type.elts if isinstance(node.type, ast.Tuple) else [node.type]
             self.assertTrue({name.id for name in caught} <= own, place)
+
+    def test_finally_only_assigns(self):
+        for place, node in nodes(ast.Try):
+            for part in [inner for row in node.finalbody for inner in ast.walk(row)]:
+                if isinstance(part, ast.stmt):
+                    self.assertIsInstance(part, (ast.Assign, ast.If), place)
+                if isinstance(part, ast.expr):
+                    self.assertIsInstance(part, (ast.Name, ast.Attribute, ast.Constant, ast.Tuple, ast.Compare), place)
+                if isinstance(part, ast.cmpop):
+                    self.assertIsInstance(part, (ast.Is, ast.IsNot), place)
 
     def test_sets_are_only_asked_on_the_spot(self):
         for _, tree in trees():
