@@ -34,7 +34,7 @@ def product_kind(dice, house):
 
 def is_product_by_words(house, kind):
     """Return True if the futures are those that combine the futures of the parts in every way."""
-    rows = [tuple(sorted({tuple(sorted((gauge, future[gauge]) for gauge in part.gauges)) for future in futures_of(kind)}))
+    rows = [sorted({tuple(sorted((gauge, future[gauge]) for gauge in part.gauges)) for future in futures_of(kind)})
             for part in house.parts]
     combined = {tuple(sorted(sum(row, ()))) for row in product(*rows)}
     return combined == {tuple((gauge, future[gauge]) for gauge in house.gauges) for future in futures_of(kind)}

@@ -60,7 +60,8 @@ class Papers(unittest.TestCase):
         lines = "\n".join([ROW] * 2).split("\n")
         for at in range(6):
             word = lines[at].split(" ")[0]
-            for bad in ("", " ", word + "s", word.upper(), " " + lines[at], lines[at] + " ", lines[at].replace(" ", "  ", 1),
+            for bad in ("", " ", word + "s", word.upper(), " " + lines[at], lines[at] + " ", lines[at].replace(" ",
+                        "  ", 1),
                         word + " x", word + " (", word + " 5", lines[(at + 1) % 3], lines[(at + 2) % 3], "undo",
                         lines[at] + " )", lines[at] + " 3", word + " a=1 a=1", word + " ( -0 )", word + " ( 1 ) ( )"):
                 text = "\n".join(lines[:at] + [bad] + lines[at + 1:])
@@ -115,8 +116,10 @@ class Commands(unittest.TestCase):
             self.assertEqual((list(again), again.told, again.kind), (list(desk), desk.told, desk.kind))
 
     def test_wrong_lines(self):
-        bad = ["", " ", "x", "Undo", "undo ", " undo", "undo undo", "undo 1", "redo ( )", "decide", "decide 5", "decide -",
-               "decide a", "decide ( ) ( )", "decide ( ) 5", "decide ( 1 2", "decide  ( )", "decide ( a )", "decide ( 01 )",
+        bad = ["", " ", "x", "Undo", "undo ", " undo", "undo undo", "undo 1", "redo ( )", "decide", "decide 5",
+               "decide -",
+               "decide a", "decide ( ) ( )", "decide ( ) 5", "decide ( 1 2", "decide  ( )", "decide ( a )",
+               "decide ( 01 )",
                "learn", "learn a", "learn a 1", "learn a 1 2 3", "learn a  1 2", "learn A 1 2", "learn 5 1 2",
                "learn - 1 2", "learn abcdefghi 1 2", "learn a b 2", "learn a 1 b", "learn a 01 2", "learn a 1 -0",
                "learn a ( )", "learn a None 2", "decides ( )", "run ( )", "future a=1"]

@@ -38,7 +38,8 @@ class Kinds(unittest.TestCase):
 
     def test_the_errors_of_the_creation(self):
         for text, error in (("kind", ("EmptyKind",)), ("kind a", ("EmptyKind",)), ("kind a b a", ("InvalidGauge", "a")),
-                            ("kind b a a b\ncell 1 2 3 4", ("InvalidGauge", "a")), ("kind a\ncell 5..4", ("InvalidBox", 0)),
+                            ("kind b a a b\ncell 1 2 3 4", ("InvalidGauge", "a")), ("kind a\ncell 5..4",
+                            ("InvalidBox", 0)),
                             ("kind a\ncell 5..6\ncell", ("InvalidBox", 1)), ("kind\ncell\ncell 1", ("InvalidBox", 1)),
                             ("kind a b\ncell 1 2\ncell 1 2 3\ncell 1", ("InvalidBox", 1)),
                             ("kind a a\ncell 5..4", ("InvalidGauge", "a"))):
@@ -56,7 +57,8 @@ class Kinds(unittest.TestCase):
                                  "1,2", "2..-", "-..2", "0..-0"):
             if word != "":
                 self.assertEqual(told(read_kind, f"kind a\ncell {word}"), ("InvalidText", 2), word)
-            self.assertEqual(told(read_kind, f"kind a b c\ncell 1 2 3\ncell 1 {word} 2\ncell x"), ("InvalidText", 3), word)
+            text = f"kind a b c\ncell 1 2 3\ncell 1 {word} 2\ncell x"
+            self.assertEqual(told(read_kind, text), ("InvalidText", 3), word)
 
     def test_wrong_lines(self):
         for text, line in (("", 1), ("\n", 1), ("kinds a\ncell 1", 1), (" kind a\ncell 1", 1), ("kind a \ncell 1", 1),
@@ -91,7 +93,8 @@ class Futures(unittest.TestCase):
         self.assertEqual(read_future(write_future(single({"a": 4}).future_at(0))), {"a": 4})
 
     def test_wrong_words(self):
-        for word in BAD_WORDS + ("a", "a=", "=1", "a=01", "a=-0", "a=--1", "a=+1", "A=1", "a==1", "a=1=2", "abcdefghi=1",
+        for word in BAD_WORDS + ("a", "a=", "=1", "a=01", "a=-0", "a=--1", "a=+1", "A=1", "a==1", "a=1=2",
+                                 "abcdefghi=1",
                                  "9=1", "a=b", "a=-", "a:1", "a=1.0", "a =1", "a= 1", "a=1..2"):
             if word != "":
                 self.assertEqual(told(read_future, f"future {word}"), ("InvalidText", 1), word)

@@ -218,11 +218,10 @@ class MostSurprises(unittest.TestCase):
 
     def test_the_limit_comes_after_the_decision_and_before_the_pairs(self):
         for limit in (-1, -HUGE):
-            self.assertEqual(told(most_surprises, Plans(3), 5, [(menu("a", [1]), EMPTY)], limit=limit), ("NothingOpen",))
-            self.assertEqual(told(most_surprises, PLANS, 5, [(menu("a", [1]), EMPTY)], limit=limit),
-                             ("InvalidDecision", 5))
-            self.assertEqual(told(most_surprises, PLANS, 0, [(menu("a", [1]), EMPTY)], limit=limit),
-                             ("InvalidAmount", limit))
+            bad = [(menu("a", [1]), EMPTY)]
+            self.assertEqual(told(most_surprises, Plans(3), 5, bad, limit=limit), ("NothingOpen",))
+            self.assertEqual(told(most_surprises, PLANS, 5, bad, limit=limit), ("InvalidDecision", 5))
+            self.assertEqual(told(most_surprises, PLANS, 0, bad, limit=limit), ("InvalidAmount", limit))
         self.assertEqual(told(most_surprises, PLANS, 0, [(menu("a", [1]), EMPTY)], limit=0), ("OtherGauges", "a"))
 
     def test_nothing_is_tied(self):

@@ -11,7 +11,8 @@ GOOD = {
     "( 3 - ( 0 -1 ) ( ) )": [3, None, [0, -1], []], "( ( ( - ) 5 ) ( ( ) ( ) ) - )": [[[None], 5], [[], []], None],
 }
 # No integer words, and no other words either.
-BAD_WORDS = ("", "00", "01", "-0", "-01", "+1", "--1", "-", "+", "1-", "1.0", "1_0", "1e3", "0x1", "a", "1a", "()", "(1",
+BAD_WORDS = ("", "00", "01", "-0", "-01", "+1", "--1", "-", "+", "1-", "1.0", "1_0", "1e3", "0x1", "a", "1a", "()",
+             "(1",
              "1)", "(", ")", ".", "..", "None", "\t", "'1'")
 
 
@@ -59,7 +60,8 @@ class Lists(unittest.TestCase):
                     self.assertEqual(told(read_list, text), ("InvalidText", 1), text)
 
     def test_brackets_that_do_not_fit(self):
-        for text in ("(", ")", "( (", "( ( )", "( ) )", "( ) ( )", ") (", "( 1 ) 2", "1", "-", "1 2", "( ( ) ) )", "( ) -",
+        for text in ("(", ")", "( (", "( ( )", "( ) )", "( ) ( )", ") (", "( 1 ) 2", "1", "-", "1 2", "( ( ) ) )",
+                     "( ) -",
                      "-5 ( )", "( ( 1 ) ( 2 )"):
             self.assertEqual(told(read_list, text), ("InvalidText", 1), text)
 

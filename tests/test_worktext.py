@@ -145,7 +145,8 @@ class WrongLines(unittest.TestCase):
             for at, line in enumerate(lines):
                 word = line.split(" ")[0]
                 for bad in ("", " ", "x", " " + line, line + " ", line + " .", line + " -", line + " 00", line + " -0",
-                            word.upper() + line[len(word):], word + "s" + line[len(word):], word + "  " + line[len(word) + 1:],
+                            word.upper() + line[len(word):], word + "s" + line[len(word):],
+                            word + "  " + line[len(word) + 1:],
                             "kind a", "undo", "future a=1", "( )", "-", "5"):
                     self.check_line(text, at, bad)
 
@@ -161,8 +162,10 @@ class WrongLines(unittest.TestCase):
 
     def test_plans(self):
         text = list(TEXTS)[2]
-        for words in ("", "( )", "( all", "( a )", "( any a )", "( 5 )", "( ( all ) )", "all )", "( all ) )", "( all ) 5",
-                      "a b", "5 5", "( one ( all )", "( all ( ) )", "(", ")", "( one", "( all A )", "( all 05 )", "( all - )",
+        for words in ("", "( )", "( all", "( a )", "( any a )", "( 5 )", "( ( all ) )", "all )", "( all ) )",
+                      "( all ) 5",
+                      "a b", "5 5", "( one ( all )", "( all ( ) )", "(", ")", "( one", "( all A )", "( all 05 )",
+                      "( all - )",
                       "( One a )", "( all a", ") ( all", "(all a )", "( all a)", "-", "( all ( all ) ) ( all )", "a )"):
             self.check_line(text, 0, f"plans {words}" if words else "plans")
         self.check_line(text, 1, "plans 5")
@@ -175,8 +178,10 @@ class WrongLines(unittest.TestCase):
         text = list(TEXTS)[6]
         for bad in ("works 1", "works a:b", "works works", "project 1:2"):
             self.check_line(text, 0, bad)
-        for bad in ("project 1", "project a", "project 1:", "project :1", "project 1:2:3", "project 1: 2", "project 1 :2",
-                    "project A:1", "project 1:B", "project 01:1", "project 1:-0", "project h;1", "project 1:2 3", "project -",
+        for bad in ("project 1", "project a", "project 1:", "project :1", "project 1:2:3", "project 1: 2",
+                    "project 1 :2",
+                    "project A:1", "project 1:B", "project 01:1", "project 1:-0", "project h;1", "project 1:2 3",
+                    "project -",
                     "project ( 1 2 )", "period 1:2", "slot 1 2"):
             self.check_line(text, 1, bad)
 
@@ -215,10 +220,12 @@ class Creation(unittest.TestCase):
     def test_the_errors_of_each_class(self):
         for text, error in (("orders -1 -2\nperiod -1 2 3 4 5 6\nplaced -1", ("InvalidPeriod", 0)),
                             ("orders -1 -2\nperiod a 2 3 4 5 6\nperiod 1 a 3 4 5 6\nplaced", ("SharedGauge", "a")),
-                            ("orders -1 -2\nplaced -1", ("InvalidAmount", -1)), ("orders 0 -2\nplaced", ("InvalidAmount", -2)),
+                            ("orders -1 -2\nplaced -1", ("InvalidAmount", -1)), ("orders 0 -2\nplaced",
+                            ("InvalidAmount", -2)),
                             ("orders 0 0\nplaced 5", ("InvalidPlan", 0)), ("plans ( all 1 ( one ) )\nplaced",
                                                                         ("InvalidTerm", 2)),
-                            ("plans -1\nplaced 3", ("InvalidTerm", 0)), ("plans ( all a a )\nplaced", ("SharedGauge", "a")),
+                            ("plans -1\nplaced 3", ("InvalidTerm", 0)), ("plans ( all a a )\nplaced", ("SharedGauge",
+                            "a")),
                             ("plans ( one a b )\nplaced 1 0", ("InvalidPlan", 1)),
                             ("plans ( one a b )\nplaced -1", ("InvalidPlan", 0)),
                             ("works\nproject 1:1\nproject 1:1 0:a\nplaced 7", ("InvalidStep", 1, 1)),
