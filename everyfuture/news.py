@@ -25,13 +25,14 @@ def best_question(department, kind, gauge):
     check_gauge(kind, gauge)
     own = kind_with(department, kind, gauge)
     values = own.values_of(gauge)
-    many = how_many(values)
-    if many == 1:
+    if how_many(values) == 1:
         return None
+    # From the crossing on the futures below a value decide, before it the others. Where one side has no question, its
+    # number is the least loss on all futures, which is never the smaller one.
     at = crossing(department, own, gauge)
-    above = None if at == 1 else least_loss(department, upper(own, gauge, at - 1))[0]
-    below = None if at == many else least_loss(department, lower(own, gauge, at - 1))[0]
-    if above is None or (below is not None and below < above):
+    below = least_loss(department, lower(own, gauge, at - 1))[0]
+    above = least_loss(department, upper(own, gauge, at - 1))[0]
+    if below < above:
         return number_at(values, at), below
     return number_at(values, first_within(department, own, gauge, at - 1, above)), above
 

@@ -152,6 +152,7 @@ def term_of(words, line):
     at = 0
     while at < len(words):
         if words[at] == "(":
+            # This part of the list is empty if the bracket is the last word.
             if words[at + 1:at + 2] not in (["all"], ["one"]):
                 raise InvalidText(line)
             begun.append((words[at + 1], []))

@@ -299,6 +299,11 @@ class SettlingHouses(unittest.TestCase):
         for most in (3, 20, HUGE):
             self.assertEqual(told(settling_house, house, kind, "a", most=most), ("NotSettled", 10))
 
+    def test_twenty_ranges_if_nothing_else_is_said(self):
+        orders = Orders([("w", 0, 0, 0, 1, 2)])
+        rows = settling_house(House([orders]), Kind(["w"], [[(4, BIG)]]), "w")
+        self.assertEqual(rows, [(at, at, [at]) for at in range(4, 24)])
+
     def test_great_numbers(self):
         house = House([PLANS, House([Plans(("one", ["c", 2 * BIG // 3]))])])
         kind = Kind(["a", "b", "c"], [[(0, BIG), (BIG // 3, BIG // 3), (0, 0)]])

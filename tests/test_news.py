@@ -88,10 +88,14 @@ class Checks:
 
     def cases(self, seed, many):
         dice = random.Random(seed)
-        for _ in range(many):
+        while many:
             department, kind = random_department(dice, self.make)
             gauge = dice.choice(kind.gauges)
-            yield dice, department, kind, gauge, Model(department, kind, gauge)
+            model = Model(department, kind, gauge)
+            # Where some decision is best in all futures there is little to be found out, so few of these will do.
+            if model.least_loss(model.values[0], model.values[-1]) or dice.random() < 0.15:
+                many -= 1
+                yield dice, department, kind, gauge, model
 
     def limits(self, model):
         first, last = model.values[0], model.values[-1]
@@ -100,7 +104,7 @@ class Checks:
 
     def test_settling_against_all_ranges(self):
         many = unsettled = 0
-        for _, department, kind, gauge, model in self.cases(220, 90):
+        for _, department, kind, gauge, model in self.cases(220, 60):
             for limit in self.limits(model):
                 found = result_of(settling, department, kind, gauge, limit=limit)
                 self.assertEqual(found, model.settling(limit, 20))
@@ -112,8 +116,7 @@ class Checks:
                     self.assertEqual(result_of(settling, department, kind, gauge, limit=limit, most=most),
                                      model.settling(limit, most))
             self.assertEqual(result_of(settling, department, kind, gauge), model.settling(0, 20))
-        self.assertGreater(many, 5)
-        self.assertGreater(unsettled, 5)
+        self.assertGreater(min(many, unsettled), 10)
 
     def test_what_point_57_says(self):
         for _, department, kind, gauge, model in self.cases(221, 40):

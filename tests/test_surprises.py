@@ -104,6 +104,13 @@ class SurpriseLosses(unittest.TestCase):
                 self.assertEqual(told(call, WORKS, 1, [pair]), ("OutOfRange", "h"))
             self.assertIsNone(told(call, WORKS, 1, [(calm, calm)]))
 
+    def test_the_first_gauge_of_all_pairs_that_is_out_of_range(self):
+        works = Works([[("g", 1), ("h", 1)], [(2, 2)]])
+        pairs = [(menu("h", [0]), menu("h", [0])), (menu("g", [2]), menu("g", [0]))]
+        self.assertEqual(told(surprise_losses, works, 0, pairs), ("OutOfRange", "g"))
+        self.assertEqual(told(merged_losses, House([works]), [0], pairs), ("OutOfRange", "g"))
+        self.assertEqual(told(surprise_losses, works, 0, pairs[:1]), ("MissingGauge", "g"))
+
     def test_great_numbers(self):
         pairs = [(menu("a", [0]), Kind(["a"], [[(5, BIG)]])), (menu("b", [HUGE]), menu("b", [3])),
                  (menu("c", [7]), menu("c", [2]))]
