@@ -65,7 +65,7 @@ class Desk:
         results = None
         self.busy = True
         try:
-            results = [self._carry_out(command) for command in commands]
+            results = [self._carry_out(command) for command in list(commands)]
         finally:
             self.busy = False
             if results is None:

@@ -30,8 +30,8 @@ def best_question(department, kind, gauge):
     # From the crossing on the futures below a value decide, before it the others. Where one side has no question, its
     # number is the least loss on all futures, which is never the smaller one.
     at = crossing(department, own, gauge)
-    below = least_loss(department, lower(own, gauge, at - 1))[0]
-    above = least_loss(department, upper(own, gauge, at - 1))[0]
+    below = least_loss(department, up_to(own, gauge, at - 1))[0]
+    above = least_loss(department, from_on(own, gauge, at - 1))[0]
     if below < above:
         return number_at(values, at), below
     return number_at(values, first_within(department, own, gauge, at - 1, above)), above
@@ -114,12 +114,12 @@ def piece(kind, gauge, first, last):
     return kind.cut(gauge, low=number_at(values, first), high=number_at(values, last))
 
 
-def lower(kind, gauge, last):
+def up_to(kind, gauge, last):
     """Return the kind cut to the values of the gauge up to this place."""
     return piece(kind, gauge, 0, last)
 
 
-def upper(kind, gauge, first):
+def from_on(kind, gauge, first):
     """Return the kind cut to the values of the gauge from this place on."""
     return kind.cut(gauge, low=number_at(kind.values_of(gauge), first))
 
@@ -173,8 +173,8 @@ def crossing(department, kind, gauge):
     low, high = 1, how_many(values)
     while low < high:
         middle = (low + high) // 2
-        below = least_loss(department, lower(kind, gauge, middle - 1))[0]
-        if within(department, upper(kind, gauge, middle), limit=below):
+        below = least_loss(department, up_to(kind, gauge, middle - 1))[0]
+        if within(department, from_on(kind, gauge, middle), limit=below):
             high = middle
         else:
             low = middle + 1
@@ -186,7 +186,7 @@ def first_within(department, kind, gauge, last, limit):
     low, high = 1, last
     while low < high:
         middle = (low + high) // 2
-        if within(department, upper(kind, gauge, middle), limit=limit):
+        if within(department, from_on(kind, gauge, middle), limit=limit):
             high = middle
         else:
             low = middle + 1

@@ -3,6 +3,9 @@
 from everyfuture.departments import check_decision, kind_for
 from everyfuture.ends import corner_values, ends, is_reached, signs_of
 from everyfuture.errors import InvalidCertificate, InvalidPlan, InvalidRow, MissingGauge, NotCovered, OutOfRange
+from everyfuture.errors import as_lists
+from everyfuture.houses import House
+from everyfuture.losses import values_for
 
 
 def paper_bound(department, decision, kind, rows):
@@ -22,14 +25,37 @@ def make_paper(department, decision, kind):
     """Return a paper that proves the loss of the decision on the kind."""
     check_decision(department, decision)
     own = kind_for(department, kind)
-    after = department.after(decision)
-    rows = {}
+    futures = {}
     for signs in department.directions(decision):
         for future in ends(own, signs):
-            values = tuple(future.values())
-            if values not in rows:
-                rows[values] = (future, after.finish(future), department.certificate(future))
-    return list(rows.values())
+            futures[values_for(department, future)] = future
+    covering = list(futures.values())
+    rests = answers(department.after(decision), covering, finish_of)
+    return list(zip(covering, rests, answers(department, covering, certificate_of)))
+
+
+def finish_of(department, future):
+    """Return the completion of the department for the future."""
+    return department.finish(future)
+
+
+def certificate_of(department, future):
+    """Return the certificate of the department for the future."""
+    return department.certificate(future)
+
+
+def answers(department, futures, ask):
+    """Return what `ask` returns for each of the futures, for a house the lists of what it returns for the parts."""
+    if isinstance(department, House):
+        rows = [answers(part, futures, ask) for part in department.parts]
+        return [[row[at] for row in rows] for at in range(len(futures))]
+    # Many futures of a house are alike for one of its departments, so each of them is asked for only once.
+    found = {}
+    for future in futures:
+        values = values_for(department, future)
+        if values not in found:
+            found[values] = ask(department, future)
+    return [as_lists(found[values_for(department, future)]) for future in futures]
 
 
 def row_amounts(department, decision, rows):
