@@ -27,8 +27,8 @@ def best_question(department, kind, gauge):
     values = own.values_of(gauge)
     if how_many(values) == 1:
         return None
-    # From the crossing on the futures below a value decide, before it the others. Where one side has no question, its
-    # number is the least loss on all futures, which is never the smaller one.
+    # From the crossing on, the greater least loss is that of the futures below the value, before it that of the others.
+    # Where one side has no question, its number is the least loss on all futures, which is never the smaller one.
     at = crossing(department, own, gauge)
     below = least_loss(department, up_to(own, gauge, at - 1))[0]
     above = least_loss(department, from_on(own, gauge, at - 1))[0]
